@@ -309,15 +309,60 @@ func TestLongNamesOfNone(t *testing.T) {
 	fault(t, "p's own", p, api.Fault{})
 }
 
-// P11.2: ErrMany is told ahead of ErrLong, for its Decls and Clauses and for its instances.
-func TestManyAheadOfLong(t *testing.T) {
-	long := api.Comp{Name: "L", Body: api.Prog{Decls: []api.Decl{{Name: name(64), At: 1}}}}
-	for n, want := range map[int]api.Fault{95: {Why: api.ErrLong, At: 1}, 96: {Why: api.ErrMany, At: 2}} {
-		fault(t, "items", api.Prog{Clauses: clauses(n), Comps: []api.Comp{long}, Inits: []api.Init{{Name: "a", Comp: "L", At: 2}}}, want)
-		p := api.Prog{Comps: []api.Comp{long, {Name: "C"}}}
-		p.Inits = numbered(n, func(i int) api.Init { return api.Init{Name: "i" + strconv.Itoa(i), Comp: "C"} })
+// fourItems: bodies of four items: one that is right, one with a Decl at 1 that would be too long, and one with such a name in a Clause.
+func fourItems() (right, longDecl, longName api.Prog) {
+	right = api.Prog{Decls: decls(2), Clauses: clauses(2)}
+	longDecl = api.Prog{Decls: append(decls(3), api.Decl{Name: name(64), At: 1})}
+	not := api.Lit{Kind: api.LNot, Atom: api.Atom{Rel: "r1." + name(60), At: 1}}
+	longName = api.Prog{Decls: decls(2), Clauses: append(clauses(1), api.Clause{Head: api.Atom{Rel: "p"}, Body: []api.Lit{not}})}
+	return right, longDecl, longName
+}
+
+// P11.2: of one Init, too many instances are told ahead of a name that is too long, and that ahead of too many Decls and Clauses.
+func TestManyAndLong(t *testing.T) {
+	none, many, long := api.Fault{}, api.Fault{Why: api.ErrMany, At: 2}, api.Fault{Why: api.ErrLong, At: 1}
+	right, longDecl, longName := fourItems()
+	for _, c := range []struct {
+		what       string
+		body       api.Prog
+		own, ahead int // Clauses of p, and Inits ahead of the body's
+		want       api.Fault
+	}{
+		{"nothing", right, 92, 95, none},
+		{"a Decl", longDecl, 92, 95, long},
+		{"a name in a Clause", longName, 92, 95, long},
+		{"items", right, 93, 95, many},
+		{"items and a Decl", longDecl, 93, 95, long},
+		{"items and a name in a Clause", longName, 93, 95, long},
+		{"p's own items", right, 97, 0, many},
+		{"p's own items and a Decl", longDecl, 97, 0, long},
+		{"p's own items and a name in a Clause", longName, 97, 0, long},
+		{"instances", right, 92, 96, many},
+		{"instances and a Decl", longDecl, 92, 96, many},
+		{"instances and a name in a Clause", longName, 92, 96, many},
+		{"instances, items and a Decl", longDecl, 93, 96, many},
+		{"instances, items and a name in a Clause", longName, 93, 96, many},
+	} {
+		p := api.Prog{Clauses: clauses(c.own), Comps: []api.Comp{{Name: "C"}, {Name: "L", Body: c.body}}}
+		p.Inits = numbered(c.ahead, func(i int) api.Init { return api.Init{Name: "i" + strconv.Itoa(i), Comp: "C"} })
 		p.Inits = append(p.Inits, api.Init{Name: "a", Comp: "L", At: 2})
-		fault(t, "instances", p, want)
+		fault(t, c.what, p, c.want)
+	}
+}
+
+// P11.2: of several Inits the first counts: too many Decls and Clauses with it are told ahead of a name that is too long in one within it, or behind it.
+func TestManyThenLong(t *testing.T) {
+	right, longDecl, longName := fourItems()
+	outer := right
+	outer.Inits = []api.Init{{Name: "a", Comp: "L", At: 7}}
+	for _, body := range []api.Prog{longDecl, longName} {
+		comps := []api.Comp{{Name: "R", Body: right}, {Name: "L", Body: body}, {Name: "O", Body: outer}}
+		for n, want := range map[int]api.Fault{92: {Why: api.ErrLong, At: 1}, 93: {Why: api.ErrMany, At: 5}} {
+			within := []api.Init{{Name: "b", Comp: "O", At: 5}}
+			fault(t, "within", api.Prog{Clauses: clauses(n), Comps: comps, Inits: within}, want)
+			behind := []api.Init{{Name: "b", Comp: "R", At: 5}, {Name: "a", Comp: "L", At: 7}}
+			fault(t, "behind", api.Prog{Clauses: clauses(n), Comps: comps, Inits: behind}, want)
+		}
 	}
 }
 

@@ -49,6 +49,9 @@ func (m *maker) instances(p body) api.Fault {
 			if fault := m.put(whole, inner.prefix); fault.Why != api.OK {
 				return fault
 			}
+			if m.tooMany() {
+				return api.Fault{Why: api.ErrMany, At: inst.At}
+			}
 			if fault := within(whole, inner); fault.Why != api.OK {
 				return fault
 			}
@@ -67,12 +70,15 @@ func (m *maker) open(inst api.Init, way []string) (body, api.Errno) {
 	if slices.Contains(way, inst.Comp) {
 		return body{}, api.ErrRing
 	}
-	whole := newBody(joined(bodies))
-	items := len(m.flat.Decls) + len(m.flat.Clauses) + len(whole.Decls) + len(whole.Clauses)
-	if items > api.MaxRules || m.made == api.MaxRules {
+	if m.made == api.MaxRules {
 		return body{}, api.ErrMany
 	}
-	return whole, api.OK
+	return newBody(joined(bodies)), api.OK
+}
+
+// tooMany tells whether there are too many Decls and Clauses. It is asked behind put, since an instance's names that are too long are told first.
+func (m *maker) tooMany() bool {
+	return len(m.flat.Decls)+len(m.flat.Clauses) > api.MaxRules
 }
 
 // put makes the Decls and Clauses of an instance.

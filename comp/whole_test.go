@@ -225,13 +225,16 @@ func wantFlat(p api.Prog) (api.Prog, api.Fault) {
 		if slices.Contains(t.way, init.Comp) {
 			return told(api.ErrRing)
 		}
-		if made == api.MaxRules || len(flat.Decls)+len(flat.Clauses)+len(body.Decls)+len(body.Clauses) > api.MaxRules {
+		if made == api.MaxRules {
 			return told(api.ErrMany)
 		}
 		prefix := t.prefix + init.Name + "."
 		f := wantInstance(&flat, copied(body), prefix)
 		if f.Why != api.OK {
 			return api.Prog{}, f
+		}
+		if len(flat.Decls)+len(flat.Clauses) > api.MaxRules {
+			return told(api.ErrMany)
 		}
 		todo = append(tasks(body, prefix, append(slices.Clone(t.way), init.Comp)), todo[1:]...)
 	}
