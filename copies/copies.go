@@ -14,8 +14,11 @@ func Prog(p api.Prog) api.Prog {
 	}
 }
 
-// List is a new list of copies, each made by one.
+// List is a new list of copies, each made by one; nil of nil.
 func List[T any](list []T, one func(T) T) []T {
+	if list == nil {
+		return nil
+	}
 	twin := make([]T, len(list))
 	for i, x := range list {
 		twin[i] = one(x)
@@ -23,9 +26,9 @@ func List[T any](list []T, one func(T) T) []T {
 	return twin
 }
 
-// Plain is a new list of things that hold no lists themselves.
+// Plain is a new list of things that hold no lists themselves; nil of nil.
 func Plain[T any](list []T) []T {
-	return append([]T{}, list...)
+	return List(list, func(x T) T { return x })
 }
 
 // Type is a copy of a type.

@@ -58,9 +58,6 @@ func TestProg(t *testing.T) {
 		next := int64(deep)
 		fill(reflect.ValueOf(&p).Elem(), deep, &next)
 		twin := Prog(p)
-		if deep > 0 && !reflect.DeepEqual(lengths(twin), lengths(p)) {
-			t.Fatalf("depth %d: lists of other lengths", deep)
-		}
 		seen := map[uintptr]bool{}
 		for _, at := range append(lists(reflect.ValueOf(p)), lists(reflect.ValueOf(twin))...) {
 			if seen[at] {
@@ -68,33 +65,22 @@ func TestProg(t *testing.T) {
 			}
 			seen[at] = true
 		}
-		if !same(reflect.ValueOf(p), reflect.ValueOf(twin)) {
+		if !reflect.DeepEqual(p, twin) {
 			t.Fatalf("depth %d: %+v is no copy of %+v", deep, twin, p)
 		}
 	}
 }
 
-func lengths(p api.Prog) []int {
-	return []int{len(p.Types), len(p.Decls), len(p.Comps), len(p.Inits), len(p.Clauses)}
-}
-
-// same: nil and empty lists aside.
-func same(a, b reflect.Value) bool {
-	switch a.Kind() {
-	case reflect.Struct:
-		for i := range a.NumField() {
-			if !same(a.Field(i), b.Field(i)) {
-				return false
-			}
+// A list that is nil stays so, and one that is empty does.
+func TestEmpty(t *testing.T) {
+	for _, p := range []api.Prog{
+		{},
+		{Types: []api.TypeDecl{}, Decls: []api.Decl{}, Comps: []api.Comp{}, Inits: []api.Init{}, Clauses: []api.Clause{}},
+		{Types: []api.TypeDecl{{Ctors: []api.Ctor{}}, {Ctors: []api.Ctor{{Fields: []api.Field{}}}}}, Decls: []api.Decl{{Cols: []api.Field{}}, {}}},
+		{Comps: []api.Comp{{Bases: []string{}}, {}}, Clauses: []api.Clause{{Body: []api.Lit{}}, {Head: api.Atom{Args: []api.Expr{}}}}},
+	} {
+		if twin := Prog(p); !reflect.DeepEqual(p, twin) {
+			t.Errorf("%#v is no copy of %#v", twin, p)
 		}
-		return true
-	case reflect.Slice:
-		for i := range min(a.Len(), b.Len()) {
-			if !same(a.Index(i), b.Index(i)) {
-				return false
-			}
-		}
-		return a.Len() == b.Len()
 	}
-	return a.Equal(b)
 }
