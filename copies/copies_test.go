@@ -84,3 +84,48 @@ func TestEmpty(t *testing.T) {
 		}
 	}
 }
+
+// R4: a copy of a row has all that the row has, and no list in common with it, nor one twice, though the row has one part again and again.
+func TestRow(t *testing.T) {
+	part := api.Val{Kind: api.Con, S: "Leaf", Args: []api.Val{{Kind: api.Sym, S: "a"}}}
+	for range 12 {
+		part = api.Val{Kind: api.Con, S: "Node", N: 3, Args: []api.Val{part, {Kind: 7, N: 1, Args: []api.Val{}}, part}}
+	}
+	row := api.Row{Args: []api.Val{part, {}, part}, Height: 2, Rule: 5}
+	twin := Row(row)
+	if !reflect.DeepEqual(row, twin) {
+		t.Error("it is no copy")
+	}
+	seen := map[uintptr]bool{}
+	for _, at := range lists(reflect.ValueOf(row)) {
+		seen[at] = true
+	}
+	for _, at := range lists(reflect.ValueOf(twin)) {
+		if seen[at] {
+			t.Fatal("a list is there twice")
+		}
+		seen[at] = true
+	}
+}
+
+// R1: copying ends, of a value that holds itself, or one part so often that no memory has room for all of them; such a copy has no list in common with the value either.
+func TestValEnds(t *testing.T) {
+	ring := make([]api.Val, 2)
+	ring[0] = api.Val{Kind: api.Con, S: "R", Args: ring}
+	ring[1] = api.Val{Kind: api.Con, S: "S", Args: ring}
+	row := make([]api.Val, 1)
+	row[0] = api.Val{Kind: api.Con, S: "T", Args: row}
+	wide := api.Val{Kind: api.Con, S: "Leaf"}
+	for range 200 {
+		wide = api.Val{Kind: api.Con, S: "Node", Args: []api.Val{wide, wide}}
+	}
+	for _, v := range []api.Val{ring[0], row[0], wide} {
+		at, twin := v, Val(v)
+		for range 150 {
+			if twin.Kind != at.Kind || twin.S != at.S || len(twin.Args) != len(at.Args) || &twin.Args[0] == &at.Args[0] {
+				t.Fatalf("%s: %+v", v.S, twin.Kind)
+			}
+			at, twin = at.Args[len(at.Args)-1], twin.Args[len(twin.Args)-1]
+		}
+	}
+}
