@@ -1,4 +1,4 @@
-// Package copies makes copies of programs, of tables' rows, and of their parts, that share no memory with what they are made of, nor one list with another.
+// Package copies makes copies of programs, of tables' rows, of programs of loops, and of their parts, that share no memory with what they are made of, nor one list with another.
 package copies
 
 import "vestry/api"
@@ -86,45 +86,4 @@ func Expr(x api.Expr) api.Expr {
 func Row(r api.Row) api.Row {
 	r.Args = List(r.Args, Val)
 	return r
-}
-
-// place is where a list of values lies, and how long it is.
-type place struct {
-	first *api.Val
-	size  int
-}
-
-// treeParts is how many parts of a value have copies of their own at least.
-const treeParts = 1 << 16
-
-// Val is a copy of a value. A value may hold itself, or one part again and again, and the copying must end there, too: behind so many parts it copies each list once.
-func Val(v api.Val) api.Val {
-	met := map[place][]api.Val{}
-	parts := 0
-	var left [][]api.Val
-	twin := func(args []api.Val) []api.Val {
-		if len(args) == 0 {
-			return Plain(args)
-		}
-		here := place{&args[0], len(args)}
-		if own, there := met[here]; there {
-			return own
-		}
-		own := Plain(args)
-		left = append(left, own)
-		parts += len(own)
-		if parts > treeParts {
-			met[here] = own
-		}
-		return own
-	}
-	v.Args = twin(v.Args)
-	for len(left) > 0 {
-		own := left[len(left)-1]
-		left = left[:len(left)-1]
-		for i := range own {
-			own[i].Args = twin(own[i].Args)
-		}
-	}
-	return v
 }

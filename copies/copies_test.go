@@ -129,3 +129,57 @@ func TestValEnds(t *testing.T) {
 		}
 	}
 }
+
+// R4: a copy of a program of loops has all that the program has, and no list in common with it, nor one twice, though the program has one part again and again.
+func TestRam(t *testing.T) {
+	for deep := range 4 {
+		var m api.Ram
+		next := int64(deep)
+		fill(reflect.ValueOf(&m).Elem(), deep, &next)
+		m.Main.Kids = append(m.Main.Kids, m.Main, api.RNode{Kids: []api.RNode{}, Exprs: []api.RExpr{}, Keys: []api.RKey{}, Rels: []int{}}, m.Main)
+		twin := Ram(m)
+		if !reflect.DeepEqual(m, twin) {
+			t.Fatalf("depth %d: %+v is no copy of %+v", deep, twin, m)
+		}
+		seen := map[uintptr]bool{}
+		for _, at := range lists(reflect.ValueOf(m)) {
+			seen[at] = true
+		}
+		for _, at := range lists(reflect.ValueOf(twin)) {
+			if seen[at] {
+				t.Fatalf("depth %d: a list is there twice", deep)
+			}
+			seen[at] = true
+		}
+	}
+}
+
+// R1: copying ends, of a program of loops that holds itself, in nodes, in expressions and in keys, or one part so often that no memory has room for all of them.
+func TestRamEnds(t *testing.T) {
+	kids := make([]api.RNode, 2)
+	exprs := make([]api.RExpr, 2)
+	keys := make([]api.RKey, 1)
+	for i := range exprs {
+		exprs[i] = api.RExpr{Kind: api.ECon, S: "A", Kids: exprs}
+	}
+	keys[0].X = exprs[0]
+	kids[0] = api.RNode{Kind: api.RSeq, Kids: kids, Exprs: exprs, Keys: keys, L: exprs[0], R: exprs[1]}
+	kids[1] = api.RNode{Kind: api.RLoop, Kids: kids}
+	wide := api.RNode{Kind: api.RSeq}
+	for range 200 {
+		wide = api.RNode{Kind: api.RSeq, Kids: []api.RNode{wide, wide}}
+	}
+	for _, main := range []api.RNode{kids[0], kids[1], wide} {
+		at, twin := main, Ram(api.Ram{Main: main}).Main
+		for range 150 {
+			if twin.Kind != at.Kind || len(twin.Kids) != len(at.Kids) || &twin.Kids[0] == &at.Kids[0] {
+				t.Fatalf("%d, %d Kids", twin.Kind, len(twin.Kids))
+			}
+			at, twin = at.Kids[len(at.Kids)-1], twin.Kids[len(twin.Kids)-1]
+		}
+	}
+	twin := Ram(api.Ram{Main: kids[0]}).Main
+	if &twin.Exprs[0] == &exprs[0] || &twin.Keys[0] == &keys[0] || &twin.Exprs[1].Kids[0] == &exprs[0] || &twin.Keys[0].X.Kids[0] == &exprs[0] || &twin.L.Kids[0] == &exprs[0] || &twin.R.Kids[1] == &exprs[1] {
+		t.Error("a list is there that was handed in")
+	}
+}
