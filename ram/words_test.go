@@ -1,6 +1,7 @@
 package ram
 
 import (
+	"maps"
 	"slices"
 
 	"vestry/api"
@@ -73,30 +74,51 @@ func settersOf(widths []int, n api.RNode) []int {
 	return regs
 }
 
+// law: whether a program, with all its nodes, is what a program that may be is.
+type law func(m api.Ram, all []spot) bool
+
 // laws: what a program that may be is, by name.
-func laws() map[string]func(m api.Ram, all []spot) bool {
-	some := func(m api.Ram, rel int) bool { return 0 <= rel && rel < len(m.Widths) }
-	each := func(holds func(m api.Ram, s spot) bool) func(api.Ram, []spot) bool {
-		return func(m api.Ram, all []spot) bool {
-			return !slices.ContainsFunc(all, func(s spot) bool { return !holds(m, s) })
+func laws() map[string]law {
+	all := wholeLaws()
+	maps.Copy(all, nodeLaws())
+	maps.Copy(all, listLaws())
+	maps.Copy(all, exprLaws())
+	return all
+}
+
+// eachSpot: what holds of each node.
+func eachSpot(holds func(m api.Ram, s spot) bool) law {
+	return func(m api.Ram, all []spot) bool {
+		return !slices.ContainsFunc(all, func(s spot) bool { return !holds(m, s) })
+	}
+}
+
+// eachExpr: what holds of each expression of each node.
+func eachExpr(holds func(m api.Ram, s spot, x api.RExpr, deep int) bool) law {
+	return eachSpot(func(m api.Ram, s spot) bool {
+		all := true
+		has, _ := exprLists(s.RNode)
+		for _, x := range has {
+			exprsBy(x, 1, func(x api.RExpr, deep int) { all = all && holds(m, s, x, deep) })
 		}
-	}
-	eachExpr := func(holds func(m api.Ram, s spot, x api.RExpr, deep int) bool) func(api.Ram, []spot) bool {
-		return each(func(m api.Ram, s spot) bool {
-			all := true
-			has, _ := exprLists(s.RNode)
-			for _, x := range has {
-				exprsBy(x, 1, func(x api.RExpr, deep int) { all = all && holds(m, s, x, deep) })
-			}
-			return all
-		})
-	}
-	is := func(s spot, kinds ...int) bool { return slices.Contains(kinds, s.Kind) }
-	asks := func(m api.Ram, s spot, reg int) bool {
-		return 0 <= reg && reg < m.Regs && slices.ContainsFunc(s.around, func(n api.RNode) bool { return slices.Contains(settersOf(m.Widths, n), reg) })
-	}
-	word := func(s string) bool { return term.Right(api.Val{Kind: api.Con, S: s}) }
-	return map[string]func(m api.Ram, all []spot) bool{
+		return all
+	})
+}
+
+func isSome(m api.Ram, rel int) bool { return 0 <= rel && rel < len(m.Widths) }
+
+func is(s spot, kinds ...int) bool { return slices.Contains(kinds, s.Kind) }
+
+// asks: whether a node may ask for a register.
+func asks(m api.Ram, s spot, reg int) bool {
+	return 0 <= reg && reg < m.Regs && slices.ContainsFunc(s.around, func(n api.RNode) bool { return slices.Contains(settersOf(m.Widths, n), reg) })
+}
+
+func mayBeWord(s string) bool { return term.Right(api.Val{Kind: api.Con, S: s}) }
+
+// wholeLaws: those of what a program is in all.
+func wholeLaws() map[string]law {
+	return map[string]law{
 		"relations": func(m api.Ram, all []spot) bool { return len(m.Widths) <= 128 },
 		"widths": func(m api.Ram, all []spot) bool {
 			return len(m.Widths) == 0 || slices.Min(m.Widths) >= 0 && slices.Max(m.Widths) <= 8
@@ -112,33 +134,21 @@ func laws() map[string]func(m api.Ram, all []spot) bool {
 			}
 			return count <= 4096
 		},
-		"deep nodes": each(func(m api.Ram, s spot) bool { return len(s.around) < 64 }),
-		"deep exprs": eachExpr(func(m api.Ram, s spot, x api.RExpr, deep int) bool { return deep <= 32 }),
-		"kinds":      each(func(m api.Ram, s spot) bool { return s.Kind >= api.RScan && s.Kind <= api.RMerge }),
-		"expr kinds": eachExpr(func(m api.Ram, s spot, x api.RExpr, deep int) bool {
-			return x.Kind >= api.EVar && x.Kind <= api.ECon && x.Kind != api.EAny
+	}
+}
+
+// nodeLaws: those of a node's numbers and texts.
+func nodeLaws() map[string]law {
+	return map[string]law{
+		"deep nodes": eachSpot(func(m api.Ram, s spot) bool { return len(s.around) < 64 }),
+		"kinds":      eachSpot(func(m api.Ram, s spot) bool { return s.Kind >= api.RScan && s.Kind <= api.RMerge }),
+		"Rel": eachSpot(func(m api.Ram, s spot) bool {
+			return isSome(m, s.Rel) || !is(s, api.RScan, api.RHas, api.RNot, api.RPut, api.RClear, api.RSwap, api.RMerge)
 		}),
-		"Rel": each(func(m api.Ram, s spot) bool {
-			return some(m, s.Rel) || !is(s, api.RScan, api.RHas, api.RNot, api.RPut, api.RClear, api.RSwap, api.RMerge)
+		"Other": eachSpot(func(m api.Ram, s spot) bool {
+			return !is(s, api.RSwap, api.RMerge) || isSome(m, s.Other) && isSome(m, s.Rel) && m.Widths[s.Rel] == m.Widths[s.Other]
 		}),
-		"Other": each(func(m api.Ram, s spot) bool {
-			return !is(s, api.RSwap, api.RMerge) || some(m, s.Other) && some(m, s.Rel) && m.Widths[s.Rel] == m.Widths[s.Other]
-		}),
-		"Rels": each(func(m api.Ram, s spot) bool {
-			return s.Kind != api.RLoop || !slices.ContainsFunc(s.Rels, func(rel int) bool { return !some(m, rel) })
-		}),
-		"Cols": each(func(m api.Ram, s spot) bool {
-			for i, k := range s.Keys {
-				if s.Kind == api.RScan && (!some(m, s.Rel) || k.Col < 0 || k.Col >= m.Widths[s.Rel] || i > 0 && k.Col <= s.Keys[i-1].Col) {
-					return false
-				}
-			}
-			return true
-		}),
-		"Exprs": each(func(m api.Ram, s spot) bool {
-			return !is(s, api.RHas, api.RNot, api.RPut) || some(m, s.Rel) && len(s.Exprs) == m.Widths[s.Rel]
-		}),
-		"From": each(func(m api.Ram, s spot) bool {
+		"From": eachSpot(func(m api.Ram, s spot) bool {
 			last := s.From
 			for _, reg := range settersOf(m.Widths, s.RNode) {
 				if reg < 0 || reg >= m.Regs {
@@ -148,30 +158,60 @@ func laws() map[string]func(m api.Ram, all []spot) bool {
 			}
 			return !is(s, api.RScan, api.RLet, api.RMatch) || last >= 0 && last <= m.Regs
 		}),
-		"Other of a match": each(func(m api.Ram, s spot) bool { return s.Kind != api.RMatch || s.Other >= 0 && s.Other <= 8 }),
-		"word of a match":  each(func(m api.Ram, s spot) bool { return s.Kind != api.RMatch || word(s.S) }),
-		"words":            eachExpr(func(m api.Ram, s spot, x api.RExpr, deep int) bool { return x.Kind != api.ECon || word(x.S) }),
-		"comparisons": each(func(m api.Ram, s spot) bool {
+		"Other of a match": eachSpot(func(m api.Ram, s spot) bool { return s.Kind != api.RMatch || s.Other >= 0 && s.Other <= 8 }),
+		"word of a match":  eachSpot(func(m api.Ram, s spot) bool { return s.Kind != api.RMatch || mayBeWord(s.S) }),
+		"comparisons": eachSpot(func(m api.Ram, s spot) bool {
 			return s.Kind != api.RCmp || slices.Contains([]string{"=", "!=", "<", "<=", ">", ">="}, s.Op)
 		}),
+		"matched": eachSpot(func(m api.Ram, s spot) bool { return s.Kind != api.RMatch || asks(m, s, s.N) }),
+	}
+}
+
+// listLaws: those of a node's lists, and of what a Kind has not.
+func listLaws() map[string]law {
+	return map[string]law{
+		"Rels": eachSpot(func(m api.Ram, s spot) bool {
+			return s.Kind != api.RLoop || !slices.ContainsFunc(s.Rels, func(rel int) bool { return !isSome(m, rel) })
+		}),
+		"Cols": eachSpot(func(m api.Ram, s spot) bool {
+			for i, k := range s.Keys {
+				if s.Kind == api.RScan && (!isSome(m, s.Rel) || k.Col < 0 || k.Col >= m.Widths[s.Rel] || i > 0 && k.Col <= s.Keys[i-1].Col) {
+					return false
+				}
+			}
+			return true
+		}),
+		"Exprs": eachSpot(func(m api.Ram, s spot) bool {
+			return !is(s, api.RHas, api.RNot, api.RPut) || isSome(m, s.Rel) && len(s.Exprs) == m.Widths[s.Rel]
+		}),
+		"Kids": eachSpot(func(m api.Ram, s spot) bool {
+			return len(s.Kids) == 0 || !is(s, api.RPut, api.RClear, api.RSwap, api.RMerge)
+		}),
+		"needless": eachSpot(func(m api.Ram, s spot) bool {
+			_, others := exprLists(s.RNode)
+			return !slices.ContainsFunc(others, func(x api.RExpr) bool { return x.Kind != 0 || x.N != 0 || x.S != "" || len(x.Kids) > 0 }) && (len(s.Rels) == 0 || s.Kind == api.RLoop)
+		}),
+		"needless Keys": eachSpot(func(m api.Ram, s spot) bool { return s.Kind == api.RScan || len(s.Keys) == 0 }),
+		"needless lists": eachSpot(func(m api.Ram, s spot) bool {
+			return len(s.Exprs) == 0 || is(s, api.RHas, api.RNot, api.RPut)
+		}),
+	}
+}
+
+// exprLaws: those of expressions.
+func exprLaws() map[string]law {
+	return map[string]law{
+		"deep exprs": eachExpr(func(m api.Ram, s spot, x api.RExpr, deep int) bool { return deep <= 32 }),
+		"expr kinds": eachExpr(func(m api.Ram, s spot, x api.RExpr, deep int) bool {
+			return x.Kind >= api.EVar && x.Kind <= api.ECon && x.Kind != api.EAny
+		}),
+		"words": eachExpr(func(m api.Ram, s spot, x api.RExpr, deep int) bool { return x.Kind != api.ECon || mayBeWord(x.S) }),
 		"operators": eachExpr(func(m api.Ram, s spot, x api.RExpr, deep int) bool {
 			return x.Kind != api.EOp || len(x.Kids) == 2 && slices.Contains([]string{"+", "-", "*", "/", "%"}, x.S)
 		}),
 		"asked for": eachExpr(func(m api.Ram, s spot, x api.RExpr, deep int) bool { return x.Kind != api.EVar || asks(m, s, x.N) }),
-		"matched":   each(func(m api.Ram, s spot) bool { return s.Kind != api.RMatch || asks(m, s, s.N) }),
-		"Kids": each(func(m api.Ram, s spot) bool {
-			return len(s.Kids) == 0 || !is(s, api.RPut, api.RClear, api.RSwap, api.RMerge)
-		}),
 		"Kids of exprs": eachExpr(func(m api.Ram, s spot, x api.RExpr, deep int) bool {
 			return len(x.Kids) == 0 || x.Kind != api.EVar && x.Kind != api.ENum && x.Kind != api.EText
-		}),
-		"needless": each(func(m api.Ram, s spot) bool {
-			_, others := exprLists(s.RNode)
-			return !slices.ContainsFunc(others, func(x api.RExpr) bool { return x.Kind != 0 || x.N != 0 || x.S != "" || len(x.Kids) > 0 }) && (len(s.Rels) == 0 || s.Kind == api.RLoop)
-		}),
-		"needless Keys": each(func(m api.Ram, s spot) bool { return s.Kind == api.RScan || len(s.Keys) == 0 }),
-		"needless lists": each(func(m api.Ram, s spot) bool {
-			return len(s.Exprs) == 0 || is(s, api.RHas, api.RNot, api.RPut)
 		}),
 	}
 }
